@@ -12,6 +12,9 @@ BEGINS = 0
 CAM = 1
 WISH = 2
 MOVES = 3
+SUM = 4
+NEAREST = 5
+BEST = 6
 
 
 class UnknownCall(ValueError):
@@ -57,7 +60,7 @@ class Show:
 
     def cam(self, radii):
         # The document tells -1 ahead of -5, so wrong radii are refused first even when the box is full.
-        if not fits_places(radii, self.places, GREATEST_RADIUS):
+        if not fits(radii, self.places, GREATEST_RADIUS):
             return [-1]
         if len(self.cams) == MOST_CAMS:
             return [-5]
@@ -65,7 +68,7 @@ class Show:
         return [len(self.cams) - 1]
 
     def wish(self, heights):
-        if not fits_places(heights, self.places, GREATEST_HEIGHT):
+        if not fits(heights, self.places, GREATEST_HEIGHT):
             return [-1]
         self.wished = heights
         return [0]
@@ -73,8 +76,43 @@ class Show:
     def moves(self, cam):
         if cam >= len(self.cams):
             return [-2]
-        motion = motion_of(self.cams[cam], self.foot)
+        motion = motion_of(self.cams[cam], self.reaches())
         return [max(motion)] + motion
+
+    def sum_by(self, plan):
+        if not fits(plan, len(self.cams), self.places):
+            return [-1]
+        lever = [0] * self.places
+        for motion, turn in zip(self.motions(), plan):
+            lever = together(lever, share_of(motion, turn))
+        off = off_by_place(lever, self.wished)
+        return [sum(off), max(off)] + lever
+
+    def nearest(self):
+        graded = []
+        for plan, lever in every_plan(self.motions(), self.places):
+            off = off_by_place(lever, self.wished)
+            graded.append((sum(off), cams_on(plan, self.places), plan))
+        return answer_of(graded)
+
+    def best(self):
+        reaches = self.reaches()
+        graded = []
+        for plan, lever in every_plan(self.motions(), self.places):
+            if is_nowhere_higher(lever, self.wished):
+                # Where the lever is nowhere higher, what it's off is what's left.
+                left = off_by_place(lever, self.wished)
+                cut = cut_from(left, reaches)
+                lacking = sum(left) - sum(motion_of(cut, reaches))
+                graded.append((lacking, cams_on(plan, self.places), plan + cut))
+        return answer_of(graded)
+
+    def reaches(self):
+        return [reach_from(place, self.places, self.foot) for place in range(self.places)]
+
+    def motions(self):
+        reaches = self.reaches()
+        return [motion_of(radii, reaches) for radii in self.cams]
 
 
 def none_above(numbers, greatest):
@@ -87,23 +125,79 @@ def is_foot(numbers):
     return numbers[0] == 0 and none_above(numbers, GREATEST_LIFT)
 
 
-def fits_places(numbers, places, greatest):
-    return len(numbers) == places and none_above(numbers, greatest)
+def fits(numbers, length, greatest):
+    return len(numbers) == length and none_above(numbers, greatest)
 
 
-def height_at(place, radii, foot):
-    places = len(radii)
-    # A height is never below 0, so the search for the greatest starts there.
-    height = 0
+# The places that the foot reaches from a place, each with by how much the foot is higher there.
+def reach_from(place, places, foot):
+    lifts = {}
     for aside, lift in enumerate(foot):
-        on = radii[(place + aside) % places]
-        back = radii[(place - aside) % places]
-        height = max(height, on - lift, back - lift)
-    return height
+        for other in ((place + aside) % places, (place - aside) % places):
+            # A place that is reached in several ways, gone round, is touched by the lowest part of the foot alone.
+            lifts[other] = min(lift, lifts.get(other, lift))
+    return list(lifts.items())
 
 
-def motion_of(radii, foot):
-    return [height_at(place, radii, foot) for place in range(len(radii))]
+def height_over(radii, reach):
+    # The foot reaches the place itself, where it is 0 higher, so no height is below 0.
+    return max([radii[place] - lift for place, lift in reach])
+
+
+def motion_of(radii, reaches):
+    return [height_over(radii, reach) for reach in reaches]
+
+
+def radius_under(left, reach):
+    return min([left[place] + lift for place, lift in reach])
+
+
+def cut_from(left, reaches):
+    return [radius_under(left, reach) for reach in reaches]
+
+
+# What a cam that is turned so adds to the lever.
+def share_of(motion, turn):
+    # Turned by the number of places is how a plan tells that the cam stays in the box.
+    if turn == len(motion):
+        return [0] * len(motion)
+    return motion[turn:] + motion[:turn]
+
+
+def together(lever, share):
+    return [height + more for height, more in zip(lever, share)]
+
+
+def off_by_place(lever, wished):
+    return [abs(height - wish) for height, wish in zip(lever, wished)]
+
+
+def is_nowhere_higher(lever, wished):
+    return all([height <= wish for height, wish in zip(lever, wished)])
+
+
+def cams_on(plan, places):
+    return len(plan) - plan.count(places)
+
+
+# All plans, each with what the lever does by it; the earlier comes first, so that a walk meets it first.
+def every_plan(motions, places):
+    plans = [([], [0] * places)]
+    for motion in motions:
+        shares = [share_of(motion, turn) for turn in range(places + 1)]
+        longer = []
+        for plan, lever in plans:
+            for turn, share in enumerate(shares):
+                longer.append((plan + [turn], together(lever, share)))
+        plans = longer
+    return plans
+
+
+# A graded plan is (how bad, how many cams, what else is told); the earlier stands ahead of the later.
+def answer_of(graded):
+    least = min([(bad, cams) for bad, cams, told in graded])
+    good = [told for bad, cams, told in graded if (bad, cams) == least]
+    return list(least) + [len(good)] + good[0]
 
 
 def answer_call(show, reader):
@@ -117,6 +211,12 @@ def answer_call(show, reader):
         return show.wish(reader.row())
     if call == MOVES:
         return show.moves(reader.number())
+    if call == SUM:
+        return show.sum_by(reader.row())
+    if call == NEAREST:
+        return show.nearest()
+    if call == BEST:
+        return show.best()
     raise UnknownCall(f"no call has the number {call}")
 
 

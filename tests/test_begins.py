@@ -1,7 +1,6 @@
 import unittest
 
-from camshow.show import Show
-from line_helper import GREATEST, ask, begins, cam, moves, wish
+from line_helper import GREATEST, ask, begins, best, cam, moves, sums, wish
 
 WRONG_BEGINNINGS = [
     (0, [0]),
@@ -62,12 +61,11 @@ class BeginsAccepted(unittest.TestCase):
         self.assertEqual(given, [[0], [0], [9, 9, 7, 0, 7], [-1], [-1], [0]])
 
     def test_wishes_0_at_each_place(self):
-        show = Show()
-        show.wish([5, 6])
-        self.assertEqual(show.begins(2, [0]), [0])
-        self.assertEqual(show.wished, [0, 0])
-        self.assertEqual(show.begins(8, [0, 1]), [0])
-        self.assertEqual(show.wished, [0, 0, 0, 0, 0, 0, 0, 0])
+        given = ask(wish([5, 6]), begins(2, [0]), sums([]), best(), wish([5, 6]), begins(8, [0, 1]), sums([]), best())
+        self.assertEqual(given, [
+            [0], [0], [0, 0, 0, 0], [0, 0, 1, 0, 0],
+            [0], [0], [0, 0] + [0] * 8, [0, 0, 1] + [0] * 8,
+        ])
 
 
 class BeginsRefused(unittest.TestCase):
@@ -91,11 +89,8 @@ class BeginsRefused(unittest.TestCase):
     def test_the_wish_stays(self):
         for places, foot in WRONG_BEGINNINGS:
             with self.subTest(places=places, foot=foot):
-                show = Show()
-                show.begins(3, [0, 1])
-                show.wish([4, 5, 6])
-                self.assertEqual(show.begins(places, foot), [-1])
-                self.assertEqual((show.places, show.foot, show.wished), (3, [0, 1], [4, 5, 6]))
+                given = ask(begins(3, [0, 1]), wish([4, 5, 6]), begins(places, foot), sums([]), best())
+                self.assertEqual(given, [[0], [0], [-1], [15, 6, 0, 0, 0], [1, 0, 1, 4, 5, 5]])
 
     def test_the_beginning_of_a_line_stays(self):
         given = ask(begins(9, [0]), moves(0), cam([3, 1]), moves(0), wish([4, 4]))

@@ -17,6 +17,11 @@ WORDS_NOT_USED = set(
     "type typing typing_extensions enum Enum IntEnum StrEnum Flag IntFlag Generic Protocol ABC ABCMeta namedtuple "
     "NamedTuple TypedDict TYPE_CHECKING abstractmethod".split()
 )
+METHODS = set(
+    "append clear copy count endswith extend find get index insert isalnum isalpha isdigit islower isspace isupper "
+    "items join keys ljust lower lstrip partition pop remove replace reverse rfind rjust rpartition rsplit rstrip "
+    "setdefault split splitlines startswith strip update upper values zfill bit_length".split()
+)
 NODES_NOT_USED = (
     ast.With, ast.Match, ast.Delete, ast.Global, ast.Nonlocal, ast.Assert, ast.Yield, ast.YieldFrom, ast.Await,
     ast.AsyncFunctionDef, ast.AsyncFor, ast.AsyncWith, ast.Div, ast.MatMult, ast.SetComp, ast.DictComp,
@@ -61,6 +66,21 @@ class Language(unittest.TestCase):
             self.assertNotIsInstance(node, NODES_NOT_USED, (name, getattr(node, "lineno", 0)))
             if isinstance(node, ast.Constant):
                 self.assertNotIsInstance(node.value, (float, complex, bytes), (name, node.lineno))
+
+    def test_no_bare_value_stands_as_a_statement(self):
+        # L6 knows a call by itself alone; L3 lets a docstring stand at the top of a file.
+        for name, text in sources():
+            top = ast.parse(text).body
+            for node in ast.walk(ast.parse(text)):
+                if isinstance(node, ast.Expr) and node.lineno != top[0].lineno:
+                    self.assertIsInstance(node.value, ast.Call, (name, node.lineno))
+
+    def test_methods_of_python_itself(self):
+        for name, text in sources():
+            own = {node.name for node in ast.walk(ast.parse(text)) if isinstance(node, ast.FunctionDef)}
+            for node in ast.walk(ast.parse(text)):
+                if isinstance(node, ast.Call) and isinstance(node.func, ast.Attribute) and node.func.attr not in own:
+                    self.assertIn(node.func.attr, METHODS, (name, node.lineno))
 
     def test_imports_are_from_the_package_alone(self):
         for name, node in self.each_node():

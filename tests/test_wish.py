@@ -1,7 +1,6 @@
 import unittest
 
-from camshow.show import Show
-from line_helper import GREATEST, ask, begins, cam, moves, wish
+from line_helper import GREATEST, ask, begins, best, cam, moves, sums, wish
 
 
 class Wish(unittest.TestCase):
@@ -33,11 +32,13 @@ class Wish(unittest.TestCase):
         given = ask(cam([5, 6]), wish([400, 1]), moves(0), wish([401, 1]), moves(0), cam([1, 1]))
         self.assertEqual(given, [[0], [0], [6, 5, 6], [-1], [6, 5, 6], [1]])
 
+    # By a point and without cams the cam that's cut is the wish itself.
     def test_0_is_wished_at_the_beginning(self):
-        self.assertEqual(Show().wished, [0, 0])
+        self.assertEqual(ask(best()), [[0, 0, 1, 0, 0]])
 
     def test_the_last_wish_that_was_not_refused_holds(self):
-        show = Show()
+        calls = []
+        expected = []
         for heights, answer, wished in (
             ([3, 400], [0], [3, 400]),
             ([401, 0], [-1], [3, 400]),
@@ -45,9 +46,9 @@ class Wish(unittest.TestCase):
             ([], [-1], [3, 400]),
             ([7, 8], [0], [7, 8]),
         ):
-            with self.subTest(heights=heights):
-                self.assertEqual(show.wish(heights), answer)
-                self.assertEqual(show.wished, wished)
+            calls = calls + [wish(heights), best(), sums([])]
+            expected = expected + [answer, [0, 0, 1] + wished, [sum(wished), max(wished), 0, 0]]
+        self.assertEqual(ask(*calls), expected)
 
 
 if __name__ == "__main__":
